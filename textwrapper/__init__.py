@@ -1,0 +1,1 @@
+"""Textwrapper: texts broken into lines by least sum of squared gaps."""
