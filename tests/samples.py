@@ -1,4 +1,8 @@
-"""Inputs that several tests share."""
+"""Inputs that several tests share.
+
+Lists of some thousand items are compared by assertTrue(a == b): where they differ,
+assertEqual would work out their difference for minutes.
+"""
 
 from itertools import combinations, product
 

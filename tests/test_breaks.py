@@ -51,8 +51,8 @@ class LinesOfTest(unittest.TestCase):
 
     def test_two_thousand_words(self):
         words = many_words(2000)
-        self.assertEqual(lines_of(words, list(range(2000))), words)
-        self.assertEqual(lines_of(words, [0]), [" ".join(words)])
+        self.assertTrue(lines_of(words, list(range(2000))) == words)
+        self.assertTrue(lines_of(words, [0]) == [" ".join(words)])
         for starts in bad_starts(2000):
             with self.assertRaises(NoStarts):
                 lines_of(words, starts)
@@ -237,13 +237,13 @@ class QuickStartsTest(unittest.TestCase):
             self.assertLessEqual(max(sizes), width)
             for size, place in zip(sizes, starts[1:]):
                 self.assertGreater(size + 1 + len(words[place]), width)
-        self.assertEqual(quick_starts(["x"] * 2000, 3), list(range(0, 2000, 2)))
+        self.assertTrue(quick_starts(["x"] * 2000, 3) == list(range(0, 2000, 2)))
         with self.assertRaises(LongWord):
             quick_starts(words[:1999] + ["x" * 73], 72)
 
     def test_a_few_more_words_than_the_limit_are_no_fault(self):
-        self.assertEqual(quick_starts(["x"] * 2100, 3), list(range(0, 2100, 2)))
-        self.assertEqual(lines_of(["x"] * 2100, list(range(2100))), ["x"] * 2100)
+        self.assertTrue(quick_starts(["x"] * 2100, 3) == list(range(0, 2100, 2)))
+        self.assertTrue(lines_of(["x"] * 2100, list(range(2100))) == ["x"] * 2100)
 
     def test_words_stay_as_they_were(self):
         words = list(VERSE)
