@@ -3,7 +3,8 @@
 import unittest
 
 from samples import (
-    BAD_WIDTHS, FAR_ABOVE, VERSE, all_starts, bad_starts, many_words, sizes_by_hand, word_lists,
+    BAD_WIDTHS, FAR_ABOVE, VERSE, all_starts, bad_starts, fitting_starts, many_words,
+    sizes_by_hand, sum_by_hand, word_lists,
 )
 from textwrapper.breaks import lines_of, quick_starts, sum_of
 from textwrapper.errors import LongWord, NoStarts, NoWidth, TooWide
@@ -118,8 +119,7 @@ class SumOfTest(unittest.TestCase):
             with self.assertRaises(TooWide):
                 sum_of(words, width, starts)
         else:
-            total = sum((width - size) ** 2 for size in sizes[:-1])
-            self.assertEqual(sum_of(words, width, starts), total)
+            self.assertEqual(sum_of(words, width, starts), sum_by_hand(words, width, starts))
 
     def test_lines_that_do_not_fit_are_refused(self):
         for starts in [[0, 3], [0, 1], [0]]:
@@ -202,11 +202,7 @@ class QuickStartsTest(unittest.TestCase):
     def test_against_all_starts_whose_lines_fit(self):
         for words in word_lists([1, 2, 4], 6):
             for width in [4, 5, 6, 9]:
-                fitting = [
-                    starts for starts in all_starts(len(words))
-                    if max(sizes_by_hand(words, starts), default=0) <= width
-                ]
-                self.check(quick_starts(words, width), fitting)
+                self.check(quick_starts(words, width), fitting_starts(words, width))
 
     def check(self, quick, fitting):
         self.assertIn(quick, fitting)

@@ -12,12 +12,32 @@ FUNCTIONS = {
         "sum_of": ["words", "width", "starts"],
         "quick_starts": ["words", "width"],
     },
+    "least": {"table_of": ["words", "width"], "best_starts": ["words", "width"]},
+    "counted": {"starts_in": ["words", "width", "many"]},
+    "layout": {
+        "wrapped": ["text", "width"],
+        "squared": ["text", "width"],
+        "spread_line": ["words", "width"],
+    },
 }
 CLASSES = {
     "errors": [
         "WrapError", "NoWidth", "LongWord", "NoStarts", "TooWide", "TooFew",
         "TooMany", "NoPlace", "NoWord", "Full", "NoWayBack",
     ],
+    "page": ["Page"],
+}
+PAGE_METHODS = {
+    "__init__": ["self", "width"],
+    "put": ["self", "at", "word"],
+    "widen": ["self", "width"],
+    "undo": ["self"],
+    "drop": ["self", "at"],
+    "words_now": ["self"],
+    "width_now": ["self"],
+    "table_now": ["self"],
+    "starts_now": ["self"],
+    "lines_now": ["self"],
 }
 
 
@@ -44,6 +64,17 @@ class InterfaceTest(unittest.TestCase):
                 with self.subTest(f"{file}.{name}"):
                     self.assertTrue(inspect.isclass(getattr(module, name)))
                     self.assertEqual(getattr(module, name).__module__, f"textwrapper.{file}")
+
+    def test_a_page_has_its_methods_itself(self):
+        page = import_module("textwrapper.page").Page
+        for name, arguments in PAGE_METHODS.items():
+            with self.subTest(name):
+                self.assertIn(name, vars(page))
+                self.assertEqual(list(inspect.signature(vars(page)[name]).parameters), arguments)
+
+    def test_the_most_words_of_a_page(self):
+        self.assertIs(type(import_module("textwrapper.page").MOST_WORDS), int)
+        self.assertEqual(import_module("textwrapper.page").MOST_WORDS, 120)
 
 
 if __name__ == "__main__":

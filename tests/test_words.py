@@ -1,20 +1,11 @@
 """textwrapper/words.py: points 1 to 3."""
 
 import unittest
-from itertools import product
 
-from samples import many_words
+from samples import WORDLESS, many_words, short_texts
 from textwrapper.words import is_word, paragraphs_of, words_of
 
 SIGNS = "".join(chr(code) for code in range(33, 127) if chr(code) != "%")
-WORDLESS = ["", " ", "   ", "\n", "\n\n", " \n", "\n ", " \n \n\n   \n"]
-
-
-def short_texts():
-    """All texts of up to seven of these signs."""
-    for count in range(8):
-        for signs in product("a \n", repeat=count):
-            yield "".join(signs)
 
 
 def words_by_hand(text):

@@ -13,6 +13,19 @@ def size_of(words, begin, end):
     return len(line_of(words, begin, end))
 
 
+def sizes_from(words, width, begin):
+    """Tell the sizes of the lines from begin that fit, the line of one word first."""
+    sizes = []
+    # The first word of a line has no blank ahead of it.
+    size = -1
+    for place in range(begin, len(words)):
+        size = size + 1 + len(words[place])
+        if size > width:
+            return sizes
+        sizes.append(size)
+    return sizes
+
+
 def long_word(words, width):
     """Tell the place of the first word that does not fit, or None; refuse with NoWidth."""
     check_width(width)
