@@ -107,6 +107,21 @@ class StartsInTest(unittest.TestCase):
             with self.assertRaises(TooMany if many > len(words) else TooFew):
                 starts_in(words, width, many)
 
+    def test_longer_lists_against_a_search_through_all_starts(self):
+        for begin in range(0, 60, 6):
+            words = many_words(80)[begin:begin + 10]
+            for width in [9, 14, 23]:
+                found = fitting_starts(words, width)
+                for many in range(11):
+                    self.check(words, width, many, [row for row in found if len(row) == many])
+
+    def test_the_last_line_has_all_that_are_left(self):
+        # Four lines of up to 12 signs could do with less, if words were left behind them.
+        words = ["x" * size for size in [2, 1, 3, 1, 1, 4, 2, 4, 3, 2, 1, 4, 4, 1]]
+        found = [starts for starts in fitting_starts(words, 12) if len(starts) == 4]
+        self.assertEqual(starts_in(words, 12, 4), [0, 5, 8, 11])
+        self.assertEqual(best_by_search(words, 12, found), [0, 5, 8, 11])
+
     def test_of_each_number_between_there_are_some(self):
         words = many_words(40)
         for width in [9, 20, 72]:

@@ -181,6 +181,13 @@ class BestStartsTest(unittest.TestCase):
                 found = fitting_starts(words, width)
                 self.assertEqual(best_starts(words, width), best_by_search(words, width, found))
 
+    def test_longer_lists_against_a_search_through_all_starts(self):
+        for begin in range(0, 60, 6):
+            words = many_words(80)[begin:begin + 11]
+            for width in [9, 14, 23]:
+                found = fitting_starts(words, width)
+                self.assertEqual(best_starts(words, width), best_by_search(words, width, found))
+
     def test_two_thousand_words(self):
         words = many_words(2000)
         size = len(" ".join(words))
